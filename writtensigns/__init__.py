@@ -1,0 +1,1 @@
+"""Durations written: signs for what sounds, each where a metre lets it stand."""
