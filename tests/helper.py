@@ -21,6 +21,31 @@ def written(start, to, rest=0):
     return [3, start, to, rest]
 
 
+def row_of(items):
+    """Items, each a pair of a length and 1 for a rest or 0 for a note, as one row with its size ahead."""
+    return [2 * len(items), *[number for item in items for number in item]]
+
+
+def voice(items):
+    return [4, *row_of(items)]
+
+
+def beams(items):
+    return [5, *row_of(items)]
+
+
+def tuplet(n, time):
+    return [6, n, time]
+
+
+def signs():
+    return [7]
+
+
+def notes(*lengths):
+    return [(length, 0) for length in lengths]
+
+
 def split(told):
     """The answers of one list, each a list of its own."""
     parts = []
@@ -54,6 +79,10 @@ def ask_many(first, calls):
     for at in range(0, len(calls), room):
         told.extend(ask(*first, *calls[at:at + room])[len(first):])
     return told
+
+
+def counted(rows):
+    return [len(rows), *[number for row in rows for number in row]]
 
 
 def all_signs():
@@ -133,4 +162,43 @@ def partings_of(bar):
     for parting in range(2, min(bar, 16) + 1):
         if bar % parting == 0:
             found.extend([parting] + rest for rest in partings_of(bar // parting))
+    return found
+
+
+def searched_voice(bar, partings, crossed, items):
+    """The rows of numbers that voice tells, found tick by tick; crossed has the levels of notes and of rests."""
+    levels = searched_levels(bar, partings)
+    found = []
+    time = 0
+    for index, (length, rest) in enumerate(items):
+        in_bars = {}
+        for tick in range(time, time + length):
+            in_bars.setdefault(tick // bar, []).append(tick % bar)
+        own = []
+        for number, places in in_bars.items():
+            place = places[0]
+            for sign in best_rows(levels, crossed[rest], places[-1] + 1)[place]:
+                own.append([number, place, *SIGNS[sign], rest, 1 - rest, index])
+                place += sign
+        own[-1][5] = 0
+        found.extend(own)
+        time += length
+    return found
+
+
+def searched_beams(rows, group):
+    """The rows of numbers that beams tells, from the rows that voice tells."""
+    def together(i, k):
+        if i < 0 or k >= len(rows) or rows[i][0] != rows[k][0]:
+            return 0
+        one_group = any(first <= rows[i][1] and rows[k][1] < first + group for first in range(0, 256, group))
+        return min(flags[i], flags[k]) if one_group else 0
+
+    flags = [0 if row[4] else (0, 0, 0, 1, 2, 3, 4, 5)[row[2]] for row in rows]
+    found = []
+    for k in range(len(rows)):
+        left = together(k - 1, k)
+        right = together(k, k + 1)
+        stubs = flags[k] - max(left, right) if left or right else 0
+        found.append([right, stubs, 1 if right > left else 0])
     return found

@@ -70,6 +70,15 @@ class Language(unittest.TestCase):
                 self.assertEqual(node.level, 0, name)
                 self.assertTrue(node.module.startswith("writtensigns."), (name, node.module))
 
+    def test_methods_and_values_have_different_names(self):
+        methods = {node.name for name, owner in nodes() if isinstance(owner, ast.ClassDef)
+                   for node in owner.body if isinstance(node, ast.FunctionDef)}
+        values = {node.attr for name, node in nodes()
+                  if isinstance(node, ast.Attribute) and isinstance(node.ctx, ast.Store)}
+        self.assertEqual(methods & values, set())
+        python_own = {word for owner in (str, int, list, dict, set, bytes, tuple) for word in dir(owner)}
+        self.assertEqual((methods | values) & python_own, {"__init__"})
+
     def test_names(self):
         """Every name that is read is bound in its file, or one of Python's own that may be used."""
         for path, text in sources():

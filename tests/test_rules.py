@@ -2,8 +2,7 @@
 
 import unittest
 
-from helper import LARGEST, ask, begins, rules, written
-from writtensigns.house import House
+from helper import LARGEST, ask, beams, begins, notes, rules, written
 
 # From 16 to 48 of the first metre: a quarter if the place 32 (level 2) may be crossed, else two eighths.
 ACROSS = [1, 2, 0]
@@ -64,13 +63,17 @@ class Rules(unittest.TestCase):
             self.assertEqual(told, [[-1], PARTED, PARTED], refused)
 
     def test_the_group_is_kept(self):
-        house = House()
-        self.assertEqual(house.group, 32)
-        self.assertEqual(house.rules(8, 8, 48), [0])
-        self.assertEqual(house.group, 48)
+        eighths = beams(notes(16, 16, 16, 16))
+        pairs = [4, 1, 0, 1, 0, 0, 0, 1, 0, 1, 0, 0, 0]
+        three_and_one = [4, 1, 0, 1, 1, 0, 0, 0, 0, 0, 0, 0, 0]
+        self.assertEqual(ask(eighths, rules(8, 8, 48), eighths), [pairs, [0], three_and_one])
         for refused in [(21, 8, 16), (8, 21, 16), (8, 8, 0), (8, 8, 257)]:
-            self.assertEqual(house.rules(*refused), [-1])
-            self.assertEqual(house.group, 48)
+            told = ask(rules(*refused), eighths, rules(8, 8, 48), rules(*refused), eighths)
+            self.assertEqual(told, [[-1], pairs, [0], [-1], three_and_one], refused)
+
+    def test_a_new_metre_leaves_the_group(self):
+        told = ask(rules(8, 8, 48), begins(64, [2, 2, 2]), beams(notes(16, 16, 16, 16)))
+        self.assertEqual(told[2], [4, 1, 0, 1, 1, 0, 0, 0, 0, 0, 0, 0, 0])
 
     def test_a_new_metre_leaves_the_rules(self):
         # 16 has level 2, and the other places from 8 to 24 level 3.
